@@ -30,6 +30,30 @@ def shut(truth):
     return [5, truth]
 
 
+def where(vehicle):
+    return [6, vehicle]
+
+
+def when(vehicle):
+    return [7, vehicle]
+
+
+def loads():
+    return [8]
+
+
+def queue(side):
+    return [9, side]
+
+
+def most():
+    return [10]
+
+
+def state():
+    return [11]
+
+
 def asked(*calls):
     """The answers to some calls on one bridge, each as a list of its own."""
     return told(answers([number for call in calls for number in call]))
@@ -51,6 +75,11 @@ def told(given):
 def last(*calls):
     """The answer to the last one of some calls on one bridge."""
     return asked(*calls)[-1]
+
+
+def tick_by_tick(call, many, *calls):
+    """Behind some calls, tick by tick: what one more call answers then."""
+    return asked(*calls, *[ticks(1), call] * many)[len(calls) + 1::2]
 
 
 def times_of_leaving(many, *calls):
